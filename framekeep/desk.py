@@ -35,6 +35,34 @@ def answer_clear(capture, numbers, row):
     return capture.clear_slot(numbers[0])
 
 
+def answer_gate(capture, numbers, row):
+    return capture.set_gate(numbers[0])
+
+
+def answer_fits(capture, numbers, row):
+    return capture.try_frame(numbers[0], row)
+
+
+def answer_find(capture, numbers, row):
+    return capture.find_frames(numbers[0], numbers[1], numbers[2])
+
+
+def answer_total(capture, numbers, row):
+    return capture.tell_total(numbers[0])
+
+
+def answer_dump(capture, numbers, row):
+    return capture.tell_dump(numbers[0])
+
+
+def answer_save(capture, numbers, row):
+    return capture.tell_file()
+
+
+def answer_restore(capture, numbers, row):
+    return capture.restore_file(row)
+
+
 # By a call's number: how many whole numbers it has, how many rows (none or one), what answers it.
 CALLS = {
     1: (2, 0, answer_open),
@@ -45,6 +73,13 @@ CALLS = {
     6: (1, 0, answer_program),
     7: (1, 1, answer_load),
     8: (1, 0, answer_clear),
+    9: (1, 0, answer_gate),
+    10: (1, 1, answer_fits),
+    11: (3, 0, answer_find),
+    12: (1, 0, answer_total),
+    13: (1, 0, answer_dump),
+    14: (0, 0, answer_save),
+    15: (0, 1, answer_restore),
 }
 
 

@@ -1,5 +1,6 @@
 """The small machine: what a checked program says of a frame."""
 
+from framekeep.bytewise import number_of_bytes
 from framekeep.instructions import PUT, PUT_LENGTH, TAKE_BYTES, OPERATE, COMPARE, NEGATE
 from framekeep.instructions import LEAVE_OUT_IF_NO, LEAVE_OUT_IF_YES, END
 from framekeep.reckoning import operated, compared, negated
@@ -52,10 +53,3 @@ def do_instruction(instruction, values, frame):
         values.append(negated(values.pop()))
     else:
         values.pop()
-
-
-def number_of_bytes(row):
-    number = 0
-    for byte in row:
-        number = number * 256 + byte
-    return number

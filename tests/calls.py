@@ -1,8 +1,14 @@
 """Calls as they stand in the desk's list, and the answers taken apart again."""
 
+import struct
+
 from framekeep.desk import answers
 
 TOP = 2 ** 64 - 1
+ENDS_OF_INT = (-2147483648, 2147483647)
+# Loaded ones that say yes and no to every frame.
+YES = ((0, 1), (8, 0))
+NO = ((0, 0), (8, 0))
 
 
 def opening(room=2048, snap=1518):
@@ -42,6 +48,44 @@ def clearing(slot):
     return [8, slot]
 
 
+def gating(slot):
+    return [9, slot]
+
+
+def fitting(slot, frame):
+    return [10, slot, len(frame)] + list(frame)
+
+
+def finding(slot, start=1, most=65536):
+    return [11, slot, start, most]
+
+
+def totalling(slot):
+    return [12, slot]
+
+
+def dumping(number):
+    return [13, number]
+
+
+def saving():
+    return [14]
+
+
+def restoring(file):
+    return [15, len(file)] + list(file)
+
+
+def frame_bytes(number=1, time=0, way=0, length=1, kept=(7,), count=None):
+    """A frame as it stands in a file; count is how many bytes it says are kept."""
+    head = struct.pack(">QQBHH", number, time, way, length, len(kept) if count is None else count)
+    return list(head) + list(kept)
+
+
+def file_bytes(*frames):
+    return list(b"CAPT") + [byte for frame in frames for byte in frame]
+
+
 def said(*calls):
     """What is answered to each of the calls, a list for each."""
     told = answers([number for call in calls for number in call])
@@ -57,6 +101,19 @@ def said(*calls):
 
 def last_said(*calls):
     return said(*calls)[-1]
+
+
+def asking_all():
+    """Calls that tell all that a capture keeps; the gate is told by what becomes of a frame."""
+    return [counting(), saving(), *[telling_program(slot) for slot in range(16)], adding(), counting(), saving()]
+
+
+def changes_nothing(before, call):
+    """What is answered to the call, having seen that the capture is the same with it and without."""
+    plain = said(*before, *asking_all())[len(before):]
+    answer, *told = said(*before, call, *asking_all())[len(before):]
+    assert told == plain, (call, told, plain)
+    return answer
 
 
 def pairs(numbers):

@@ -2,8 +2,8 @@
 
 import unittest
 
-from framekeep.capture import Capture
-from tests.calls import adding, counting, getting, last_said, opening, said
+from tests.calls import (NO, YES, adding, compiling, counting, finding, gating, getting, last_said, loading,
+                         loading_numbers, opening, said)
 
 
 class Adding(unittest.TestCase):
@@ -56,34 +56,41 @@ class Adding(unittest.TestCase):
 
 
 class AddingWithAGate(unittest.TestCase):
-    def setUp(self):
-        self.capture = Capture()
-        self.capture.begin(2048, 2)
-        self.capture.compile_text(5, list(b"[2] = 7"))
-        self.capture.gate = 5
+    def said_behind_a_gate(self, *calls):
+        """What is answered to the calls with snap 2 and a gate that looks at the third byte."""
+        return said(opening(2048, 2), compiling(5, "[2] = 7"), gating(5), *calls)[3:]
 
     def test_the_gate_looks_at_the_whole_frame(self):
-        self.assertEqual(self.capture.add_frame(1, 0, [1, 2, 7]), [1])
-        self.assertEqual(self.capture.tell_frame(1), [2, 1, 0, 3, 1, 2])
+        told = self.said_behind_a_gate(adding(1, 0, [1, 2, 7]), getting(1))
+        self.assertEqual(told, [[1], [2, 1, 0, 3, 1, 2]])
 
     def test_what_the_gate_says_no_to_is_seen_and_not_kept(self):
-        self.assertEqual(self.capture.add_frame(1, 0, [1, 2, 8]), [0])
-        self.assertEqual(self.capture.add_frame(1, 0, [1, 2]), [0])
-        self.assertEqual(self.capture.tell_counts(), [0, 0, 0, 2, 2, 0, 1])
-        self.assertEqual(self.capture.add_frame(1, 0, [1, 2, 7]), [1])
-        self.assertEqual(self.capture.tell_counts(), [0, 1, 26, 3, 2, 0, 2])
+        told = self.said_behind_a_gate(adding(1, 0, [1, 2, 8]), adding(1, 0, [1, 2]), counting(),
+                                       adding(1, 0, [1, 2, 7]), counting())
+        self.assertEqual(told, [[0], [0], [0, 0, 0, 2, 2, 0, 1], [1], [0, 1, 26, 3, 2, 0, 2]])
+
+    def test_what_the_gate_says_no_to_makes_no_other_go(self):
+        told = said(opening(2048), adding(0, 0, [1] * 1518), loading(0, NO), gating(0),
+                    adding(0, 0, [2] * 1518), counting(), finding(0))
+        self.assertEqual(told[4:], [[0], [0, 1, 1542, 2, 1, 0, 2], [0]])
 
     def test_a_refusal_comes_ahead_of_the_gate(self):
-        self.assertEqual(self.capture.add_frame(1, 2, [1, 2, 8]), [-1])
-        self.assertEqual(self.capture.tell_counts(), [0, 0, 0, 0, 0, 0, 1])
+        told = self.said_behind_a_gate(adding(1, 2, [1, 2, 8]), adding(2 ** 63, 0, [1, 2, 8]), adding(1, 0, []),
+                                       counting())
+        self.assertEqual(told, [[-1], [-1], [-1], [0, 0, 0, 0, 0, 0, 1]])
 
     def test_the_gate_has_the_slots_newest_program(self):
-        self.capture.load_program(5, [0, 1, 8, 0])
-        self.assertEqual(self.capture.add_frame(1, 0, [1]), [1])
+        for newest in (loading(5, YES), compiling(5, "len = 1")):
+            self.assertEqual(self.said_behind_a_gate(newest, adding(1, 0, [1]))[1], [1])
+
+    def test_a_program_that_is_refused_leaves_the_gate_as_it_was(self):
+        for wrong in (loading(5, []), compiling(5, "len ="), compiling(5, b" " * 1025), loading_numbers(5, [0])):
+            told = self.said_behind_a_gate(wrong, adding(1, 0, [1]), adding(1, 0, [1, 2, 7]))
+            self.assertEqual(told[1:], [[0], [1]])
 
     def test_a_new_one_has_no_gate(self):
-        self.capture.begin(2048, 2)
-        self.assertEqual(self.capture.add_frame(1, 0, [1]), [1])
+        self.assertEqual(self.said_behind_a_gate(opening(), adding(1, 0, [1]), loading(5, NO), adding(1, 0, [1])),
+                         [[0], [1], [2], [2]])
 
 
 if __name__ == "__main__":

@@ -2,10 +2,8 @@
 
 import unittest
 
-from framekeep.capture import Capture
-from tests.calls import TOP, clearing, compiling, last_said, loading, opening, said, telling_program
-
-ENDS_OF_INT = (-2147483648, 2147483647)
+from tests.calls import (ENDS_OF_INT, NO, TOP, YES, adding, clearing, compiling, gating, last_said, loading, opening,
+                         said, telling_program)
 
 
 class TellingPrograms(unittest.TestCase):
@@ -51,17 +49,21 @@ class Clearing(unittest.TestCase):
         self.assertEqual(said(clearing(0), clearing(-1)), [[-2], [-1]])
 
     def test_the_gate_is_not_cleared(self):
-        capture = Capture()
-        capture.begin(2048, 1)
-        capture.load_program(3, [0, 1, 8, 0])
-        capture.load_program(4, [0, 1, 8, 0])
-        capture.gate = 3
-        self.assertEqual(capture.clear_slot(3), [-4])
-        self.assertEqual(capture.tell_program(3), [2, 0, 1, 8, 0])
-        self.assertEqual(capture.clear_slot(4), [0])
-        self.assertEqual(capture.clear_slot(4), [-2])
-        capture.gate = -1
-        self.assertEqual(capture.clear_slot(3), [0])
+        told = said(opening(), loading(3, NO), gating(3), clearing(3), telling_program(3), adding())
+        self.assertEqual(told[3:], [[-4], [2, 0, 0, 8, 0], [0]])
+
+    def test_another_than_the_gate_is_cleared(self):
+        told = said(opening(), loading(3, YES), loading(4, YES), gating(3), clearing(4), clearing(4), clearing(5))
+        self.assertEqual(told[4:], [[0], [-2], [-2]])
+
+    def test_what_was_the_gate_is_cleared(self):
+        for other in (gating(-1), gating(4)):
+            told = said(opening(), loading(3, YES), loading(4, YES), gating(3), other, clearing(3), telling_program(3))
+            self.assertEqual(told[4:], [[0], [0], [-2]])
+
+    def test_the_gate_of_slot_0(self):
+        told = said(opening(), loading(0, YES), gating(0), clearing(0), gating(-1), clearing(0))
+        self.assertEqual(told[2:], [[0], [-4], [0], [0]])
 
 
 if __name__ == "__main__":
